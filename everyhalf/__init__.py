@@ -1,0 +1,1 @@
+"""Every half of a company just once, one exchange an evening."""

@@ -1,0 +1,154 @@
+"""What the tests share: values of all kinds, errors that are wanted, drawn words, examples as DOC.md prints them."""
+
+import importlib
+import random
+import time
+from itertools import product
+from pathlib import Path
+
+EXAMPLES = Path(__file__).resolve().parent / "examples"
+
+# What one call may last, much more than it does, as machines differ; what is worked out in a bad way lasts longer.
+SHORT = 2.0
+
+
+class Odd:
+    """A value that is equal to everything, and can not be written out."""
+
+    def __eq__(self, other):
+        return True
+
+    def __repr__(self):
+        raise RuntimeError("cannot be written out")
+
+
+NO_INTEGERS = [
+    None, True, False, 0.0, 1.0, float("nan"), 2j, "", "1", b"1", [], [1], (), (1,), {}, {1: 1}, set(), range(3),
+    object(), Odd(), len, ValueError("1"),
+]
+NO_STRINGS = [
+    None, True, False, 0, 1, 10, 1100, -1, 10 ** 400, -(10 ** 400), 1.0, b"", b"10", [], ["1", "0"], ("1", "0"),
+    ["10"], {}, {"10": "10"}, {"1", "0"}, range(10), object(), Odd(), str, iter("10"),
+]
+HUGE = [10 ** 30, 10 ** 5000, 2 ** 100000]
+# Signs that are digits for Python, or look like them, or stand at the end of a line.
+NO_SIGNS = ["2", "a", " ", "\n", "\r", "\t", "\0", "-", "l", "O", "\u0661", "\uff11", "\u00b9", "\u2080"]
+
+# Strings that are no words; "100" and "110" are states.
+NO_WORDS = [
+    "", "1", "0", "01", "11", "00", "100", "110", "0110", "1001", "1101", "0101", "111", "1010101", "10 ", " 10",
+    "10\n", "\n10", "1 0", "1-0", "12", "20", "1o", "\uff11\uff10", "10" * 201, "1" * 201 + "0" * 201, "10" * 10000,
+    "1" * 200 + "0" * 199, "1" * 200 + "0" * 201, "10" * 200 + "\n",
+]
+
+
+def typed_fields(error):
+    """The fields of an error with the class of each, as 1 and True are alike otherwise."""
+    return {name: (type(value), value) for name, value in vars(error).items()}
+
+
+def raised(wanted, call, *args, **more):
+    """Fails unless the call raises just this error: its class and its fields."""
+    try:
+        value = call(*args, **more)
+    except type(wanted) as error:
+        assert type(error) is type(wanted), type(error)
+        assert typed_fields(error) == typed_fields(wanted), (vars(error), vars(wanted))
+        return
+    raise AssertionError(f"{call.__name__} returned {value!r} and did not raise {wanted!r}")
+
+
+def in_short_time(call, *args, **more):
+    """What the call returns; fails if this takes long."""
+    start = time.perf_counter()
+    value = call(*args, **more)
+    spent = time.perf_counter() - start
+    assert spent < SHORT, f"{call.__name__} took {spent:.2f} seconds"
+    return value
+
+
+def all_signs(length):
+    """All strings of so many signs 0 and 1, ascending."""
+    return ["".join(signs) for signs in product("01", repeat=length)]
+
+
+def told_word(text):
+    """Whether a string is a word, as [4] tells it: beginning by beginning."""
+    signs = all(sign in "01" for sign in text)
+    balanced = text.count("1") == text.count("0") and 2 <= len(text) <= 400
+    return signs and balanced and all(
+        text[:end].count("0") <= text[:end].count("1") for end in range(len(text) + 1)
+    )
+
+
+def listed_words(pairs):
+    """All words of so many pairs, ascending."""
+    return [signs for signs in all_signs(2 * pairs) if told_word(signs)]
+
+
+def drawn_word(draw, pairs):
+    """A word of so many pairs, drawn by a random.Random; long branches and short ones both come."""
+    up, word, height, left = draw.choice([0.3, 0.5, 0.6, 0.75, 0.9]), "", 0, pairs
+    while left or height:
+        if left and (height == 0 or draw.random() < up):
+            word, height, left = word + "1", height + 1, left - 1
+        else:
+            word, height = word + "0", height - 1
+    return word
+
+
+def drawn_words(seed, many, most=200):
+    """Words of 1 to most pairs, some of the greatest among them, and always the same for one seed."""
+    draw = random.Random(seed)
+    pairs = [most, most - 1, *[draw.randint(1, most) for _ in range(many - 2)]]
+    return [drawn_word(draw, each) for each in pairs]
+
+
+def told_pair(word):
+    """The first pair (u, v) as [4] tells it: up to the first 0 at which as many 0 as 1 stood."""
+    for end in range(2, len(word) + 1, 2):
+        if word[:end].count("0") == word[:end].count("1"):
+            return word[1:end - 1], word[end:]
+    raise AssertionError("no word")
+
+
+def told_turned(word):
+    u, v = told_pair(word)
+    return u + "1" + v + "0"
+
+
+def told_turns(word):
+    """The word and all words into which it is turned, until it comes again."""
+    turns = [word]
+    while told_turned(turns[-1]) != word:
+        turns.append(told_turned(turns[-1]))
+    return turns
+
+
+def example_names(modules):
+    """All names of these modules of the package, as the examples use them without imports."""
+    names = {}
+    for module in modules:
+        names.update(vars(importlib.import_module(f"everyhalf.{module}")))
+    return names
+
+
+def examples_in(module):
+    """The examples of a module: pairs of what is called and of what is printed below, None for nothing."""
+    rows = (EXAMPLES / f"{module}.txt").read_text(encoding="utf-8").splitlines()
+    return [
+        (row[4:], below if below and not below.startswith(">>> ") else None)
+        for row, below in zip(rows, rows[1:] + [None])
+        if row.startswith(">>> ")
+    ]
+
+
+def check_example(call, printed, names):
+    """Fails unless the call prints, or raises, just what is told; a call without a value is done."""
+    if printed is None:
+        exec(call, names)
+    elif printed.startswith("raises "):
+        raised(eval(printed[len("raises "):], names), lambda: eval(call, names))
+    else:
+        value = repr(eval(call, names))
+        assert value == printed, f"{call} is {value}"
