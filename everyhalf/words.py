@@ -6,8 +6,8 @@ begin one sign later on this circle, so turning moves the gaps around and
 changes none of them; and the gaps tell the word.
 """
 
-from everyhalf.checks import MOST_PAIRS, is_integer, is_signs
-from everyhalf.errors import BadNumber, BadWord, TooMany
+from everyhalf.checks import MOST_PAIRS, check_number, is_signs
+from everyhalf.errors import BadWord, TooMany
 
 
 def is_word(value):
@@ -71,8 +71,7 @@ def turned_back(word):
 def turned_by(word, many):
     """The word turned so many times; below 0, turned back."""
     check_word(word, "word")
-    if not is_integer(many):
-        raise BadNumber("many")
+    check_number(many, None, None, "many")
     return _word_turned(word, many)
 
 

@@ -125,6 +125,31 @@ def told_turns(word):
     return turns
 
 
+def told_ties(word):
+    """The tree of the word as [5] tells it: for each place the places tied to it in turn, its up place first."""
+    ties, here, ways_back = {0: []}, 0, []
+    for sign in word:
+        if sign == "1":
+            new = len(ties)
+            ties[here].append(new)
+            ties[new] = [here]
+            ways_back.append(here)
+            here = new
+        else:
+            here = ways_back.pop()
+    return ties
+
+
+def told_ways(ties, place):
+    """How many ties lead from the place to each place, by going out from it."""
+    ways, edge = {place: 0}, [place]
+    while edge:
+        edge = [(to, ways[at] + 1) for at in edge for to in ties[at] if to not in ways]
+        ways.update(edge)
+        edge = [to for to, _ in edge]
+    return ways
+
+
 def example_names(modules):
     """All names of these modules of the package, as the examples use them without imports."""
     names = {}

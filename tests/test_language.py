@@ -33,8 +33,8 @@ BARRED = re.compile(
 )
 # What stands nowhere in the package; generator expressions do not, as Paper has an __eq__.
 BARRED_NODES = (
-    ast.GeneratorExp, ast.Div, ast.AsyncFunctionDef, ast.Global, ast.Import, ast.Try, ast.With, ast.Match, ast.AnnAssign,
-    ast.Yield, ast.YieldFrom, ast.NamedExpr,
+    ast.GeneratorExp, ast.Div, ast.AsyncFunctionDef, ast.Global, ast.Import, ast.Try, ast.With, ast.Match,
+    ast.AnnAssign, ast.Yield, ast.YieldFrom, ast.NamedExpr,
 )
 AT_TOP = (ast.FunctionDef, ast.ClassDef, ast.ImportFrom, ast.Assign, ast.Expr)
 MAGIC = {"__init__", "__eq__", "__repr__", "__str__", "__len__", "__bool__"}

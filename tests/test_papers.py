@@ -111,7 +111,9 @@ class Papers(unittest.TestCase):
     def test_unlike_papers(self):
         for made in (Paper, Denial):
             one = made("x", 1, 2)
-            for other in [made("y", 1, 2), made("x", 1), made("x", 2, 1), made("x", 1, 2, 3), made("x", (1, 2)), made("x", "1", 2)]:
+            for parts in [(1,), (2, 1), (1, 2, 3), ((1, 2),), ("1", 2), ()]:
+                self.assertIs(one == made("x", *parts), False)
+            for other in [made("y", 1, 2), made("X", 1, 2), made("", 1, 2)]:
                 self.assertIs(one == other, False)
                 self.assertIs(one != other, True)
 

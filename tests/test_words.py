@@ -15,7 +15,9 @@ from tests.helper import (
 SMALL = [word for pairs in range(1, 6) for word in listed_words(pairs)]
 DRAWN = drawn_words("words", 60)
 # Words with short periods are seldom drawn.
-ROUND = ["10" * 200, "1" * 200 + "0" * 200, "1100" * 100, "110100" * 60, "10" * 7, "1" * 100 + "0" * 100, "1010" + "1100"]
+ROUND = [
+    "10" * 200, "1" * 200 + "0" * 200, "1100" * 100, "110100" * 60, "10" * 7, "1" * 100 + "0" * 100, "10101100",
+]
 WORDS = [*SMALL, *DRAWN, *ROUND]
 OF_ONE_WORD = [pairs_in, first_pair, turned, turned_back, period, turns_of, mirrored_word]
 
