@@ -48,6 +48,7 @@ def how_many_trees(pairs):
 
 def _with_tie(pairs):
     """How many trees have so many ties and one of them told."""
+    # A tree that looks alike from both ends of the tie counts whole, the others by halves.
     turned_round = 0
     if pairs == 1:
         turned_round = 1
