@@ -89,7 +89,7 @@ def turns_of(word):
     """The word, turned 0, 1, 2 .. times, as many words as its period."""
     many = period(word)
     gaps = gaps_of(word)
-    return tuple([_word_of_gaps(moved_round(gaps, turns)) for turns in range(many)])
+    return tuple([word_of_gaps(moved_round(gaps, turns)) for turns in range(many)])
 
 
 def mirrored_word(word):
@@ -123,9 +123,10 @@ def moved_round(items, many):
     return items[start:] + items[:start]
 
 
-def _word_of_gaps(gaps):
+def word_of_gaps(gaps):
+    """The word whose signs are so far from their other signs."""
     return "".join(["1" if at + gap < len(gaps) else "0" for at, gap in enumerate(gaps)])
 
 
 def _word_turned(word, many):
-    return _word_of_gaps(moved_round(gaps_of(word), many))
+    return word_of_gaps(moved_round(gaps_of(word), many))

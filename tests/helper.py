@@ -41,6 +41,13 @@ NO_WORDS = [
     "1" * 200 + "0" * 199, "1" * 200 + "0" * 201, "10" * 200 + "\n",
 ]
 
+# Strings that are no states; "10" and "1100" are words.
+NO_STATES = [
+    "", "0", "1", "01", "10", "000", "111", "1010", "1100", "00001", "11110", "10 ", "100 ", " 100", "100\n", "1o0",
+    "120", "\uff11\uff10\uff10", "1 0 0", "10" * 201 + "0", "10" * 201 + "1",
+    "1" * 199 + "0" * 202, "1" * 202 + "0" * 199, "10" * 200, "10" * 10000, "10" * 9999 + "0",
+]
+
 
 def typed_fields(error):
     """The fields of an error with the class of each, as 1 and True are alike otherwise."""
@@ -106,15 +113,25 @@ def drawn_words(seed, many, most=200):
 
 def told_pair(word):
     """The first pair (u, v) as [4] tells it: up to the first 0 at which as many 0 as 1 stood."""
-    for end in range(2, len(word) + 1, 2):
-        if word[:end].count("0") == word[:end].count("1"):
-            return word[1:end - 1], word[end:]
+    many = {"1": 0, "0": 0}
+    for at, sign in enumerate(word):
+        many[sign] += 1
+        if many["0"] == many["1"]:
+            return word[1:at], word[at + 1:]
     raise AssertionError("no word")
 
 
 def told_turned(word):
     u, v = told_pair(word)
     return u + "1" + v + "0"
+
+
+def told_turned_back(word):
+    """The word 1 u 0 v of the word u 1 v 0, as [4] tells it: up to the last 1 ahead of which as many 0 as 1 stand."""
+    for at in reversed(range(len(word))):
+        if word[at] == "1" and word[:at].count("1") == word[:at].count("0"):
+            return "1" + word[:at] + "0" + word[at + 1:-1]
+    raise AssertionError("no word")
 
 
 def told_turns(word):
@@ -148,6 +165,123 @@ def told_ways(ties, place):
         ways.update(edge)
         edge = [to for to, _ in edge]
     return ways
+
+
+def told_least_sum(word):
+    ties = told_ties(word)
+    return min(sum(told_ways(ties, place).values()) for place in ties)
+
+
+def told_state(word, shift, high):
+    """The state at this home, put together lamp by lamp."""
+    lamps = [""] * (len(word) + 1)
+    for at, sign in enumerate(word + "01"[high]):
+        lamps[(shift + at) % len(lamps)] = sign
+    return "".join(lamps)
+
+
+def told_homes(pairs):
+    """For each state of so many pairs the word and the shift of its home, and whether it is high."""
+    return {
+        told_state(word, shift, high): (word, shift, high)
+        for word in listed_words(pairs) for shift in range(2 * pairs + 1) for high in (False, True)
+    }
+
+
+def told_last_partner(word, shift, high):
+    return told_state(word, shift, not high)
+
+
+def told_turn_partner(word, shift, high):
+    if high:
+        return told_state(told_turned_back(word), (shift - 1) % (len(word) + 1), False)
+    return told_state(told_turned(word), (shift + 1) % (len(word) + 1), True)
+
+
+def told_inner(word):
+    """The u of a word 1 1 0 u 0 v."""
+    return told_pair(word)[0][2:]
+
+
+def told_right(word):
+    """Whether the word is 1 1 0 u 0 v with at most n - 3 signs in u."""
+    return word[:3] == "110" and len(told_inner(word)) <= len(word) // 2 - 3
+
+
+def told_chosen(word):
+    """The chosen word of the tree of the word, None if there is none."""
+    return min((each for each in told_turns(word) if told_right(each)), default=None)
+
+
+def told_chosen_words(pairs):
+    """The chosen words of so many pairs."""
+    return {told_chosen(word) for word in listed_words(pairs)} - {None}
+
+
+def told_ring(word):
+    """The ring of a word that can be pulled, as [8] tells it: by the three lamps that burn, or do not."""
+    behind = 3 + len(told_inner(word))
+    states = []
+    for burning in [(1,), (1, 2), (2,), (2, behind), (behind,), (1, behind)]:
+        lamps = list(word + "0")
+        for lamp in (1, 2, behind):
+            lamps[lamp] = "1" if lamp in burning else "0"
+        states.append("".join(lamps))
+    return states
+
+
+def told_round(pairs, pulls):
+    """The next state of each state of so many pairs, by these words in the place of the chosen ones.
+
+    The loops are taken as rows of ties without a way along them; in each ring its three ties of loops are taken
+    away, and the three others are put in. No low state with shift 0 goes on to its last partner.
+    """
+    homes = told_homes(pairs)
+    near = {state: {told_last_partner(*home), told_turn_partner(*home)} for state, home in homes.items()}
+    for word in pulls:
+        x_low, y_high, y_low, z, a, x_high = told_ring(word)
+        for one, other in [(x_low, x_high), (y_low, y_high), (z, a)]:
+            near[one].remove(other)
+            near[other].remove(one)
+        for one, other in [(x_low, y_high), (y_low, z), (x_high, a)]:
+            near[one].add(other)
+            near[other].add(one)
+    behind = {}
+    for state, (word, shift, high) in homes.items():
+        if shift == 0 and not high:
+            came_from, here = told_last_partner(word, shift, high), state
+            while here not in behind:
+                behind[here], = near[here] - {came_from}
+                came_from, here = here, behind[here]
+    assert len(behind) == len(homes) == len(set(behind.values()))
+    return behind
+
+
+def told_swapped(word, pulls):
+    """The word swapped, these words being the chosen ones."""
+    if word in pulls:
+        return "101" + word[3:]
+    if word[:3] == "101" and "110" + word[3:] in pulls:
+        return "110" + word[3:]
+    return word
+
+
+def told_posts(behind):
+    """For each state its post, by going on from each low state with shift 0 to the next one."""
+    word_at_0 = {told_state(word, 0, False): word for word in listed_words(len(next(iter(behind))) // 2)}
+    posts = {}
+    for start, word in word_at_0.items():
+        here, offset = start, 0
+        while offset == 0 or here not in word_at_0:
+            posts[here] = (word, offset)
+            here, offset = behind[here], offset + 1
+    return posts
+
+
+def told_stretch(word):
+    """The five states that are the stretch of a chosen word, in their order."""
+    turns = told_turns(word) * 4
+    return [told_state(turns[shift], shift, high) for shift, high in [(3, 1), (2, 0), (2, 1), (1, 0), (1, 1)]]
 
 
 def example_names(modules):

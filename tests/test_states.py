@@ -6,7 +6,7 @@ from math import comb
 
 from everyhalf.errors import BadNumber, BadState, Misfit
 from everyhalf.states import all_states, exchanged, how_many_states, is_high, is_state, moved, pairs_of, switched
-from tests.helper import HUGE, NO_INTEGERS, NO_SIGNS, NO_STRINGS, all_signs, in_short_time, raised
+from tests.helper import HUGE, NO_INTEGERS, NO_SIGNS, NO_STATES, NO_STRINGS, all_signs, in_short_time, raised
 
 
 def told_state(text):
@@ -30,11 +30,6 @@ SMALL = [state for states in LISTED.values() for state in states]
 DRAWN = drawn_states("states", 20)
 GREATEST = ["10" * 200 + "0", "10" * 200 + "1", "1" * 200 + "0" * 201, "0" * 200 + "1" * 201]
 STATES = [*SMALL, *DRAWN, *GREATEST]
-NO_STATES = [
-    "", "0", "1", "01", "10", "000", "111", "1010", "1100", "00001", "11110", "10 ", "100 ", " 100", "100\n", "1o0",
-    "120", "\uff11\uff10\uff10", "1 0 0", "10" * 201 + "0", "10" * 201 + "1",
-    "1" * 199 + "0" * 202, "1" * 202 + "0" * 199, "10" * 200, "10" * 10000, "10" * 9999 + "0",
-]
 NO_PAIRS = [0, -1, 201, 10 ** 6, -(10 ** 400), *HUGE, *NO_INTEGERS]
 OF_ONE_STATE = [pairs_of, is_high, exchanged]
 
