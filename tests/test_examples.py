@@ -7,7 +7,7 @@ from tests.helper import check_example, example_names, examples_in
 # In the order of DOC.md, as names keep what earlier examples made them.
 WITH_EXAMPLES = [
     "checks", "papers", "words", "word_numbers", "trees", "tree_names", "states", "homes", "loops", "pulls", "rings",
-    "rounds",
+    "rounds", "posts", "reasons", "pull_ways", "books",
 ]
 
 
