@@ -116,17 +116,21 @@ def check_book(value, part):
         raise BadBook(part)
 
 
+def check_is_of_book(book, pairs, part):
+    """Raises Misfit(part) unless the book is one of so many pairs."""
+    if pairs != book.pairs:
+        raise Misfit(part)
+
+
 def check_book_and_state(book, state):
     """Raises the errors of a book, of a state, and of a state that is not of its pairs."""
     check_book(book, "book")
     check_state(state, "state")
-    if len(state) // 2 != book.pairs:
-        raise Misfit("state")
+    check_is_of_book(book, len(state) // 2, "state")
 
 
 def check_book_and_word(book, word):
     """Raises the errors of a book, of a word, and of a word that is not of its pairs."""
     check_book(book, "book")
     check_word(word, "word")
-    if len(word) // 2 != book.pairs:
-        raise Misfit("word")
+    check_is_of_book(book, len(word) // 2, "word")

@@ -24,6 +24,13 @@ def is_signs(value):
     return isinstance(value, str) and value.count("0") + value.count("1") == len(value)
 
 
+def is_same(value, wanted):
+    """Whether any value is this integer, or this string; True and False stand for no number."""
+    if is_integer(wanted):
+        return is_integer(value) and value == wanted
+    return isinstance(value, str) and value == wanted
+
+
 def check_number(value, least, most, part):
     """Raises BadNumber(part) unless the value is an integer from least to most."""
     if not is_within(value, least, most):

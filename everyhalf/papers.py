@@ -1,5 +1,7 @@
 """Papers: each tells an answer and what shows it."""
 
+from everyhalf.checks import is_same
+
 
 def fixed(value):
     """The value with tuples in the place of lists, all the way in."""
@@ -11,6 +13,13 @@ def fixed(value):
 def are_equal_papers(one, other):
     """Whether two values, the first one a paper, are equal papers."""
     return type(one) is type(other) and one.word == other.word and one.parts == other.parts
+
+
+def is_just(value, paper):
+    """Whether any value is a paper of the class of this one and with its parts, which are integers and strings."""
+    if type(value) is type(paper):
+        return all([is_same(part, wanted) for part, wanted in zip(value.parts, paper.parts)])
+    return False
 
 
 class Paper:

@@ -4,7 +4,7 @@ from everyhalf.checks import check_number
 from everyhalf.homes import place_of, state_of
 from everyhalf.pulls import is_chosen
 from everyhalf.states import check_state
-from everyhalf.steps import place_with_post, post_at, word_before, word_next, word_swapped
+from everyhalf.steps import place_with_post, post_at, steps_of_a_word, word_before, word_next, word_swapped
 from everyhalf.words import check_word
 
 MOST_WORDS_ON = 1000
@@ -49,7 +49,7 @@ def post_of(state):
 def state_at(word, offset):
     """The state with this post."""
     check_word(word, "word")
-    check_number(offset, 0, _steps_of_a_word(word) - 1, "offset")
+    check_number(offset, 0, steps_of_a_word(word) - 1, "offset")
     return state_of(place_with_post(word, offset, is_chosen))
 
 
@@ -58,14 +58,9 @@ def far_next(state, many):
     check_state(state, "state")
     check_number(many, -MOST_STEPS_FAR, MOST_STEPS_FAR, "many")
     word, offset = post_of(state)
-    words, offset = divmod(offset + many, _steps_of_a_word(word))
+    words, offset = divmod(offset + many, steps_of_a_word(word))
     for _ in range(words):
         word = word_next(word, is_chosen)
     for _ in range(-words):
         word = word_before(word, is_chosen)
     return state_of(place_with_post(word, offset, is_chosen))
-
-
-def _steps_of_a_word(word):
-    """How many steps lead from a word's low state with shift 0 to the next such state."""
-    return 2 * (len(word) + 1)

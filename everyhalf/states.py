@@ -57,6 +57,11 @@ def exchanged(state):
     return exchanged_signs(state)
 
 
+def lamps_apart(one, other):
+    """The lamps in which two states of equally many lamps differ."""
+    return [lamp for lamp, signs in enumerate(zip(one, other)) if signs[0] != signs[1]]
+
+
 def how_many_states(pairs):
     """How many states have so many pairs."""
     check_pairs(pairs)

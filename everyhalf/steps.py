@@ -93,6 +93,11 @@ def post_at(place, is_chosen):
     return word_swapped(turned_by(word, -turns), is_chosen), 2 * turns - (1 if high else 0)
 
 
+def steps_of_a_word(word):
+    """How many steps lead from a word's low state with shift 0 to the next such state."""
+    return 2 * (len(word) + 1)
+
+
 def place_with_post(word, offset, is_chosen):
     """The place with this post."""
     if offset == 0:

@@ -3,7 +3,8 @@
 import importlib
 import random
 import time
-from itertools import product
+from functools import cache
+from itertools import combinations, product
 from pathlib import Path
 
 EXAMPLES = Path(__file__).resolve().parent / "examples"
@@ -63,6 +64,16 @@ def raised(wanted, call, *args, **more):
         assert typed_fields(error) == typed_fields(wanted), (vars(error), vars(wanted))
         return
     raise AssertionError(f"{call.__name__} returned {value!r} and did not raise {wanted!r}")
+
+
+def raised_class(wanted, call):
+    """Fails unless the call raises an error of just this class, whatever its fields are."""
+    try:
+        value = call()
+    except wanted as error:
+        assert type(error) is wanted, type(error)
+        return
+    raise AssertionError(f"returned {value!r} and did not raise {wanted!r}")
 
 
 def in_short_time(call, *args, **more):
@@ -284,6 +295,89 @@ def told_stretch(word):
     return [told_state(turns[shift], shift, high) for shift, high in [(3, 1), (2, 0), (2, 1), (1, 0), (1, 1)]]
 
 
+@cache
+def listed_pulls(pairs):
+    """All words of so many pairs that can be pulled, ascending."""
+    return [word for word in listed_words(pairs) if word[:3] == "110"]
+
+
+@cache
+def books_of_words():
+    """Numbers of pairs, each with words that a book may have: none, one, all, the chosen ones, some of them."""
+    draw = random.Random("books")
+    books = []
+    for pairs in range(2, 6):
+        pulls = listed_pulls(pairs)
+        some = [draw.sample(pulls, draw.randint(0, len(pulls))) for _ in range(6)]
+        for words in [[], pulls[:1], pulls[-1:], pulls, sorted(told_chosen_words(pairs)), *some]:
+            books.append((pairs, words))
+    return [*books, (6, draw.sample(listed_pulls(6), 20))]
+
+
+def great_pulls(pairs, many):
+    """So many unlike words of so many pairs that can be pulled."""
+    draw, words = random.Random(f"{pairs} {many}"), {}
+    while len(words) < many:
+        word = drawn_word(draw, pairs)
+        if word[:3] in ("110", "101"):
+            words["110" + word[3:]] = True
+    return list(words)
+
+
+def told_places(behind):
+    """For each item its round, how long this is, and the item's place on it, by going from item to item behind it."""
+    places = {}
+    for start in behind:
+        order = []
+        while start not in places and (not order or start != order[0]):
+            order.append(start)
+            start = behind[start]
+        places.update({item: (order[0], len(order), at) for at, item in enumerate(order)})
+    return places
+
+
+@cache
+def told_books():
+    """The books of books_of_words and one with more words than trees, and yet one round; each with its states' places.
+
+    They are told by pairs, words and places.
+    """
+    rings = "1100101100 1101001010 1101001100 1101010100 1101011000 1101101000 1101110000".split()
+    return [(pairs, words, told_places(told_round(pairs, words))) for pairs, words in [*books_of_words(), (5, rings)]]
+
+
+def rounds_in(places):
+    """How many rounds there are."""
+    return len({first for first, _, _ in places.values()})
+
+
+# In no order of theirs.
+NAMES = ["mo", "ann", "z", "bartholomewa", "cy", "aa", "eve", "dot"]
+
+
+def told_companies():
+    """The names and the host of companies of 4, 6 and 8, the host anywhere."""
+    return [(NAMES[:many], host) for many in (4, 6, 8) for host in NAMES[:many]]
+
+
+def told_lamps(names, host, inside):
+    """The state of a half: a lamp for each name but the host's."""
+    return "".join("1" if name in inside else "0" for name in names if name != host)
+
+
+def told_halves(names):
+    """All halves of these names, in their order."""
+    return [list(half) for half in combinations(names, len(names) // 2)]
+
+
+def great_names(many):
+    """So many unlike names of 1 to 12 letters."""
+    letters = "etaoinshrdlu"
+    names = [one + other for one in letters for other in letters] + list(letters)
+    names += [letters[at % 12] * 4 + name for at, name in enumerate(names)] + [name + "qzxjkvbpyg" for name in names]
+    return random.Random("names").sample(names, many)
+
+
 def example_names(modules):
     """All names of these modules of the package, as the examples use them without imports."""
     names = {}
@@ -307,7 +401,11 @@ def check_example(call, printed, names):
     if printed is None:
         exec(call, names)
     elif printed.startswith("raises "):
-        raised(eval(printed[len("raises "):], names), lambda: eval(call, names))
+        wanted = eval(printed[len("raises "):], names)
+        if isinstance(wanted, type):
+            raised_class(wanted, lambda: eval(call, names))
+        else:
+            raised(wanted, lambda: eval(call, names))
     else:
         value = repr(eval(call, names))
         assert value == printed, f"{call} is {value}"

@@ -1,6 +1,5 @@
 """Books: against the tests' own ties of the rings of their words."""
 
-import random
 import re
 import unittest
 
@@ -10,36 +9,12 @@ from everyhalf.papers import Paper
 from everyhalf.posts import post_of, swapped, word_behind
 from everyhalf.rounds import next_state, state_before
 from tests.helper import (
-    HUGE, NO_INTEGERS, NO_STATES, NO_STRINGS, NO_WORDS, drawn_word, in_short_time, listed_words, raised,
-    told_chosen_words, told_posts, told_ring, told_round, told_state, told_stretch, told_swapped, told_turned,
-    told_word,
+    HUGE, NO_INTEGERS, NO_STATES, NO_STRINGS, NO_WORDS, books_of_words, great_pulls, in_short_time, listed_pulls,
+    listed_words, raised, told_chosen_words, told_posts, told_ring, told_round, told_state, told_stretch, told_swapped,
+    told_turned, told_word,
 )
 
-PULLS = {pairs: [word for word in listed_words(pairs) if word.startswith("110")] for pairs in range(2, 9)}
-
-
-def books_of_words():
-    """Numbers of pairs, each with words that a book may have: none, one, all, the chosen ones, some of them."""
-    draw = random.Random("books")
-    for pairs in range(2, 6):
-        pulls = PULLS[pairs]
-        some = [draw.sample(pulls, draw.randint(0, len(pulls))) for _ in range(6)]
-        for words in [[], pulls[:1], pulls[-1:], pulls, sorted(told_chosen_words(pairs)), *some]:
-            yield pairs, words
-    yield 6, draw.sample(PULLS[6], 20)
-
-
-BOOKS = list(books_of_words())
-
-
-def great_pulls(pairs, many):
-    """So many unlike words of so many pairs that can be pulled."""
-    draw, words = random.Random(f"{pairs} {many}"), {}
-    while len(words) < many:
-        word = drawn_word(draw, pairs)
-        if word[:3] in ("110", "101"):
-            words["110" + word[3:]] = True
-    return list(words)
+BOOKS = books_of_words()
 
 
 def told_bad_item(text):
@@ -96,7 +71,7 @@ class Books(unittest.TestCase):
         self.assertEqual((Book(2, []).pairs, Book(60, ()).pairs), (2, 60))
         words = great_pulls(60, 300)
         self.assertEqual(in_short_time(Book, 60, words).words, tuple(sorted(words)))
-        self.assertEqual(Book(8, PULLS[8][:300]).words, tuple(PULLS[8][:300]))
+        self.assertEqual(Book(8, listed_pulls(8)[:300]).words, tuple(listed_pulls(8)[:300]))
 
 
 class NoBook(unittest.TestCase):
@@ -119,11 +94,11 @@ class NoBook(unittest.TestCase):
     def test_unlike_words(self):
         raised(BadBook("words"), Book, 3, ["110010", "110010"])
         raised(BadBook("words"), Book, 3, ("110010", "110100", "110010"))
-        raised(BadBook("words"), Book, 8, PULLS[8][:200] + PULLS[8][:1])
+        raised(BadBook("words"), Book, 8, listed_pulls(8)[:200] + listed_pulls(8)[:1])
 
     def test_more_than_300(self):
-        raised(BadBook("words"), Book, 8, PULLS[8][:301])
-        raised(BadBook("words"), Book, 8, PULLS[8])
+        raised(BadBook("words"), Book, 8, listed_pulls(8)[:301])
+        raised(BadBook("words"), Book, 8, listed_pulls(8))
         raised(BadBook("words"), in_short_time, Book, 60, great_pulls(60, 301))
         raised(BadBook("words"), in_short_time, Book, 3, ["110010"] * 100000)
 
@@ -140,7 +115,7 @@ class Texts(unittest.TestCase):
             self.assertEqual(Book.read(text=text).words, book.words)
 
     def test_great_ones(self):
-        for pairs, words in [(60, great_pulls(60, 300)), (60, great_pulls(60, 160)), (8, PULLS[8][:300])]:
+        for pairs, words in [(60, great_pulls(60, 300)), (60, great_pulls(60, 160)), (8, listed_pulls(8)[:300])]:
             book = Book(pairs, words)
             text = in_short_time(str, book)
             self.assertEqual(in_short_time(Book.read, text), book)
@@ -187,12 +162,12 @@ class Texts(unittest.TestCase):
             raised(BadText(0, 4), Book.read, f"3 / 110010 / {item} / 110100")
 
     def test_more_than_300_words(self):
-        text = " / ".join(["8", *PULLS[8][:300]])
+        text = " / ".join(["8", *listed_pulls(8)[:300]])
         self.assertEqual(len(Book.read(text).words), 300)
         raised(BadText(0, 601), Book.read, text + " /")
-        raised(BadText(0, 601), Book.read, text + " / " + PULLS[8][300])
+        raised(BadText(0, 601), Book.read, text + " / " + listed_pulls(8)[300])
         raised(BadText(0, 601), Book.read, text + " x")
-        raised(BadText(0, 601), in_short_time, Book.read, " / ".join(["8", *PULLS[8], *PULLS[8]]))
+        raised(BadText(0, 601), in_short_time, Book.read, " / ".join(["8", *listed_pulls(8), *listed_pulls(8)]))
 
     def test_other_values(self):
         for value in [*NO_STRINGS, Book(3, []), ["3"], ("3", "/", "110010")]:

@@ -1,9 +1,9 @@
-"""is_integer, is_within, is_signs, for values of all kinds."""
+"""is_integer, is_within, is_signs and is_same, for values of all kinds."""
 
 import unittest
 
-from everyhalf.checks import is_integer, is_signs, is_within
-from tests.helper import HUGE, NO_INTEGERS, NO_SIGNS, NO_STRINGS, in_short_time
+from everyhalf.checks import is_integer, is_same, is_signs, is_within
+from tests.helper import HUGE, NO_INTEGERS, NO_SIGNS, NO_STRINGS, Odd, in_short_time
 
 INTEGERS = [0, 1, -1, 2, 200, 201, -200, *HUGE, *[-many for many in HUGE]]
 
@@ -51,6 +51,16 @@ class Checks(unittest.TestCase):
         for at, value in enumerate(NO_STRINGS):
             with self.subTest(at=at):
                 self.assertIs(is_signs(value), False)
+
+    def test_the_same_integer_or_string(self):
+        for wanted in (0, 1, 7, -1, *HUGE):
+            self.assertIs(is_same(wanted, wanted), True)
+            for value in [*NO_INTEGERS, wanted + 1, float(min(wanted, 7)), str(min(wanted, 7)), Odd()]:
+                self.assertIs(is_same(value, wanted), False)
+        for wanted in ("", "110010", "switch"):
+            self.assertIs(is_same(wanted, wanted), True)
+            for value in [*NO_STRINGS, wanted + "0", [wanted], (wanted,), list(wanted), Odd()]:
+                self.assertIs(is_same(value, wanted), False)
 
     def test_short_time(self):
         self.assertIs(in_short_time(is_signs, "01" * 10000), True)

@@ -7,7 +7,7 @@ from tests.helper import check_example, example_names, examples_in
 # In the order of DOC.md, as names keep what earlier examples made them.
 WITH_EXAMPLES = [
     "checks", "papers", "words", "word_numbers", "trees", "tree_names", "states", "homes", "loops", "pulls", "rings",
-    "rounds", "posts", "reasons", "pull_ways", "books",
+    "rounds", "posts", "reasons", "pull_ways", "books", "sewing", "check_books", "companies", "evenings",
 ]
 
 
@@ -28,6 +28,8 @@ class Examples(unittest.TestCase):
             ('pairs_in("01")', "raises BadWord('u')"),
             ('pairs_in("01")', "raises BadNumber('word')"),
             ('pairs_in("10")', "raises BadWord('word')"),
+            ('pairs_in("10")', "raises BadWord"),
+            ('pairs_in("01")', "raises BadState"),
         ]:
             with self.subTest(call=call, printed=printed), self.assertRaises((AssertionError, ValueError)):
                 check_example(call, printed, names)

@@ -5,7 +5,9 @@ import unittest
 from math import comb
 
 from everyhalf.errors import BadNumber, BadState, Misfit
-from everyhalf.states import all_states, exchanged, how_many_states, is_high, is_state, moved, pairs_of, switched
+from everyhalf.states import (
+    all_states, exchanged, how_many_states, is_high, is_state, lamps_apart, moved, pairs_of, switched,
+)
 from tests.helper import HUGE, NO_INTEGERS, NO_SIGNS, NO_STATES, NO_STRINGS, all_signs, in_short_time, raised
 
 
@@ -141,6 +143,15 @@ class Moved(unittest.TestCase):
         for value in [*NO_STRINGS, *NO_STATES]:
             for many in (0, 1, None, True):
                 raised(BadState("state"), moved, value, many)
+
+
+class Apart(unittest.TestCase):
+    def test_lamps_in_which_two_states_differ(self):
+        for states in [LISTED[1], LISTED[2], LISTED[3][::3]]:
+            for one in states:
+                for other in states:
+                    told = [lamp for lamp in range(len(one)) if one[lamp] != other[lamp]]
+                    self.assertEqual(lamps_apart(one, other), told)
 
 
 class HowMany(unittest.TestCase):
