@@ -191,6 +191,27 @@ def told_state(word, shift, high):
     return "".join(lamps)
 
 
+def told_is_state(value):
+    """Whether any value is a string of an odd number of lamps, of which about half burn."""
+    if not isinstance(value, str) or not set(value) <= {"0", "1"}:
+        return False
+    pairs, rest = divmod(len(value), 2)
+    return rest == 1 and 1 <= pairs <= 200 and value.count("1") in (pairs, pairs + 1)
+
+
+def listed_states(pairs):
+    """All states of so many pairs, ascending."""
+    return [signs for signs in all_signs(2 * pairs + 1) if told_is_state(signs)]
+
+
+def told_order(behind, start):
+    """All that comes on the round from the start on, in order."""
+    order = [start]
+    while behind[order[-1]] != start:
+        order.append(behind[order[-1]])
+    return order
+
+
 def told_homes(pairs):
     """For each state of so many pairs the word and the shift of its home, and whether it is high."""
     return {
@@ -293,6 +314,17 @@ def told_stretch(word):
     """The five states that are the stretch of a chosen word, in their order."""
     turns = told_turns(word) * 4
     return [told_state(turns[shift], shift, high) for shift, high in [(3, 1), (2, 0), (2, 1), (1, 0), (1, 1)]]
+
+
+def told_reason(state, behind, homes, pulls):
+    """Kind and word of the tie from the state to the one behind it."""
+    word = homes[state][0]
+    if behind == told_last_partner(*homes[state]):
+        return "last", word
+    if behind == told_turn_partner(*homes[state]):
+        return "turn", word
+    both, = [pull for pull in pulls if {state, behind} <= set(told_ring(pull))]
+    return "ring", both
 
 
 @cache

@@ -8,6 +8,7 @@ from tests.helper import check_example, example_names, examples_in
 WITH_EXAMPLES = [
     "checks", "papers", "words", "word_numbers", "trees", "tree_names", "states", "homes", "loops", "pulls", "rings",
     "rounds", "posts", "reasons", "pull_ways", "books", "sewing", "check_books", "companies", "evenings",
+    "walks", "check_walks", "ranks", "pictures", "desks",
 ]
 
 

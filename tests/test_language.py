@@ -33,7 +33,7 @@ BARRED = re.compile(
 )
 # What stands nowhere in the package; generator expressions do not, as Paper has an __eq__.
 BARRED_NODES = (
-    ast.GeneratorExp, ast.Div, ast.AsyncFunctionDef, ast.Global, ast.Import, ast.Try, ast.With, ast.Match,
+    ast.GeneratorExp, ast.Div, ast.AsyncFunctionDef, ast.Global, ast.Import, ast.With, ast.Match,
     ast.AnnAssign, ast.Yield, ast.YieldFrom, ast.NamedExpr,
 )
 AT_TOP = (ast.FunctionDef, ast.ClassDef, ast.ImportFrom, ast.Assign, ast.Expr)
@@ -105,6 +105,17 @@ class Language(unittest.TestCase):
                     self.assertIn(mark.id, ("staticmethod", "classmethod", "property"), name)
                 if node.name.startswith("__"):
                     self.assertIn(node.name, MAGIC, name)
+
+    def test_own_errors_alone_are_caught(self):
+        errors = {node.name for node in nodes(self.trees["errors.py"], ast.ClassDef)}
+        for name, tree in self.trees.items():
+            for node in nodes(tree, ast.ExceptHandler):
+                self.assertIsInstance(node.type, ast.Name, (name, node.lineno))
+                self.assertIn(node.type.id, errors, (name, node.lineno))
+            for node in nodes(tree, ast.Raise):
+                if node.exc is not None:
+                    self.assertIsInstance(node.exc, ast.Call, (name, node.lineno))
+                    self.assertIn(node.exc.func.id, errors, (name, node.lineno))
 
     def test_names(self):
         for name, tree in self.trees.items():

@@ -1,17 +1,26 @@
 """The classes of papers of all modules: their words, parts and attributes, their truth, when they are equal."""
 
+import importlib
 import unittest
+from pathlib import Path
 
 from everyhalf.check_books import OneRound, Rounds
 from everyhalf.papers import Denial, Paper
 from everyhalf.reasons import Tie
+from everyhalf.walks import Broken, Lacks, Walk, Whole
 from tests.helper import HUGE, NO_INTEGERS, NO_STRINGS, Odd
+
+PACKAGE = Path(__file__).resolve().parent.parent / "everyhalf"
 
 # Each class, its parameters, and what it is directly below.
 CLASSES = [
     (Tie, ("kind", "by"), Paper),
     (OneRound, ("states",), Paper),
     (Rounds, ("many", "one", "other"), Denial),
+    (Walk, ("states",), Paper),
+    (Whole, ("states",), Paper),
+    (Broken, ("at", "why"), Denial),
+    (Lacks, ("state",), Denial),
 ]
 NESTED = [[], (), [[1, [2, ("a", [])]], "b"], ([1], [[[]]]), {"a": [1, 2]}, [{"a": [1]}, [{"b": ()}]], "110010", 7]
 WANTED = [(), (), ((1, (2, ("a", ()))), "b"), ((1,), (((),),)), {"a": [1, 2]}, ({"a": [1]}, ({"b": ()},)), "110010", 7]
@@ -24,6 +33,14 @@ def drawn_parts(values, at, many):
 
 
 class PaperClasses(unittest.TestCase):
+    def test_these_are_all_of_them(self):
+        found = {
+            value for path in PACKAGE.glob("*.py")
+            for value in vars(importlib.import_module(f"everyhalf.{path.stem}")).values()
+            if isinstance(value, type) and issubclass(value, Paper)
+        }
+        self.assertEqual(found - {Paper, Denial}, {made for made, _, _ in CLASSES})
+
     def test_bases(self):
         for made, _, base in CLASSES:
             self.assertEqual(made.__bases__, (base,))

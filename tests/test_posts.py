@@ -7,7 +7,7 @@ from everyhalf.posts import far_next, post_of, state_at, swapped, word_ahead, wo
 from everyhalf.rounds import next_state, state_before
 from tests.helper import (
     HUGE, NO_INTEGERS, NO_STATES, NO_STRINGS, NO_WORDS, drawn_words, in_short_time, listed_words, raised, told_chosen,
-    told_chosen_words, told_posts, told_round, told_state, told_swapped, told_turned, told_turned_back,
+    told_chosen_words, told_order, told_posts, told_round, told_state, told_swapped, told_turned, told_turned_back,
 )
 
 ROUNDS = {pairs: told_round(pairs, told_chosen_words(pairs)) for pairs in range(1, 6)}
@@ -135,10 +135,7 @@ class FarNext(unittest.TestCase):
     def test_against_single_steps(self):
         for pairs in range(1, 5):
             behind = ROUNDS[pairs]
-            start = "1" * pairs + "0" * (pairs + 1)
-            order = [start]
-            while behind[order[-1]] != start:
-                order.append(behind[order[-1]])
+            order = told_order(behind, "1" * pairs + "0" * (pairs + 1))
             long = len(order)
             for at in range(0, long, 1 if pairs < 3 else 23):
                 steps = [*range(-4 * pairs - 4, 4 * pairs + 5), long, -long, 3 * long + 2, -2 * long - 5, 9999, 10000]

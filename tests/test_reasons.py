@@ -7,21 +7,10 @@ from everyhalf.papers import Denial, Paper
 from everyhalf.reasons import Tie, backward_at, why_next
 from tests.helper import (
     NO_STATES, NO_STRINGS, drawn_words, in_short_time, raised, told_chosen, told_chosen_words, told_homes,
-    told_last_partner, told_ring, told_round, told_state, told_stretch, told_turn_partner, told_turned, told_turns,
+    told_reason, told_ring, told_round, told_state, told_stretch, told_turned, told_turns,
 )
 
 CHOSEN = {pairs: told_chosen_words(pairs) for pairs in range(1, 6)}
-
-
-def told_reason(state, behind, homes, pulls):
-    """Kind and word of the tie from the state to the one behind it."""
-    word = homes[state][0]
-    if behind == told_last_partner(*homes[state]):
-        return "last", word
-    if behind == told_turn_partner(*homes[state]):
-        return "turn", word
-    both, = [pull for pull in pulls if {state, behind} <= set(told_ring(pull))]
-    return "ring", both
 
 
 class WhyNext(unittest.TestCase):

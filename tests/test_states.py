@@ -8,13 +8,9 @@ from everyhalf.errors import BadNumber, BadState, Misfit
 from everyhalf.states import (
     all_states, exchanged, how_many_states, is_high, is_state, lamps_apart, moved, pairs_of, switched,
 )
-from tests.helper import HUGE, NO_INTEGERS, NO_SIGNS, NO_STATES, NO_STRINGS, all_signs, in_short_time, raised
-
-
-def told_state(text):
-    """Whether a string of signs is a state: an odd number of lamps, of which about half burn."""
-    pairs, rest = divmod(len(text), 2)
-    return rest == 1 and 1 <= pairs <= 200 and text.count("1") in (pairs, pairs + 1)
+from tests.helper import (
+    HUGE, NO_INTEGERS, NO_SIGNS, NO_STATES, NO_STRINGS, all_signs, in_short_time, listed_states, raised, told_is_state,
+)
 
 
 def drawn_states(seed, many):
@@ -27,7 +23,7 @@ def drawn_states(seed, many):
     return states
 
 
-LISTED = {pairs: [text for text in all_signs(2 * pairs + 1) if told_state(text)] for pairs in range(1, 6)}
+LISTED = {pairs: listed_states(pairs) for pairs in range(1, 6)}
 SMALL = [state for states in LISTED.values() for state in states]
 DRAWN = drawn_states("states", 20)
 GREATEST = ["10" * 200 + "0", "10" * 200 + "1", "1" * 200 + "0" * 201, "0" * 200 + "1" * 201]
@@ -40,7 +36,7 @@ class IsState(unittest.TestCase):
     def test_all_short_strings_of_signs(self):
         for length in range(12):
             for text in all_signs(length):
-                self.assertIs(is_state(text), told_state(text), text)
+                self.assertIs(is_state(text), told_is_state(text), text)
 
     def test_great_ones(self):
         for state in [*DRAWN, *GREATEST]:
@@ -94,7 +90,7 @@ class Switched(unittest.TestCase):
         for state in [*LISTED[1], *LISTED[2], *LISTED[3], *DRAWN[2:6], GREATEST[0], GREATEST[3]]:
             for lamp in range(len(state)):
                 told = state[:lamp] + {"0": "1", "1": "0"}[state[lamp]] + state[lamp + 1:]
-                if told_state(told):
+                if told_is_state(told):
                     self.assertEqual(switched(state, lamp), told)
                     self.assertEqual(switched(lamp=lamp, state=state), told)
                     self.assertEqual(switched(told, lamp), state)
